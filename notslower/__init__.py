@@ -1,0 +1,1 @@
+"""Notslower: changes that never make a program slower."""
