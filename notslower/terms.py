@@ -44,6 +44,20 @@ def with_parts(term, others):
     return (word, *others)
 
 
+def is_same_term(term, other):
+    """True if the two terms are equal, otherwise False: also if they are too deep for `==`."""
+    waiting = [(term, other)]
+    while waiting:
+        one, beside = waiting.pop()
+        inner = bare_parts(one)
+        others = bare_parts(beside)
+        holes = [("hole",)] * len(inner)
+        if len(inner) != len(others) or with_parts(one, holes) != with_parts(beside, holes):
+            return False
+        waiting.extend(list(zip(inner, others)))
+    return True
+
+
 def own_uses(term):
     """The tuple of the names that the term uses itself, not in one of its parts."""
     word = term[0]
@@ -103,18 +117,23 @@ def depth(term):
     return len(levels(term))
 
 
-def places(term):
-    """A list of all places of the term, in order."""
+def located(term):
+    """A list of pairs: each place of the term, in order, and the part at it."""
     found = []
     waiting = [((), term)]
     while waiting:
         place, part = waiting.pop()
-        found.append(place)
+        found.append((place, part))
         inner = bare_parts(part)
         # The last one that is put here is the next one that is taken.
         for k in reversed(range(len(inner))):
             waiting.append((place + (k,), inner[k]))
     return found
+
+
+def places(term):
+    """A list of all places of the term, in order."""
+    return [pair[0] for pair in located(term)]
 
 
 def path_to(term, place):
