@@ -1,6 +1,6 @@
 """Contexts: their holes, how these are filled, and contexts for trying claims."""
 
-from notslower.terms import located, put_at
+from notslower.terms import parts_below, put_at
 from notslower.text import read_term
 
 CONTEXT_TEXTS = (
@@ -17,7 +17,15 @@ VALUE_TEXTS = ("0", "2", "fun ww ww", "make A ( )")
 
 def holes(term):
     """A list of the places of all holes of the term, in order."""
-    return [place for place, part in located(term) if part == ("hole",)]
+    found = []
+    waiting = [((), term)]
+    # Not all places are kept here: those of a deep term take much more room than the term.
+    while waiting:
+        place, part = waiting.pop()
+        if part[0] == "hole":
+            found.append(place)
+        waiting.extend(parts_below(place, part, 0))
+    return found
 
 
 def filled(context, term):

@@ -3,10 +3,16 @@
 from notslower.better_rules import BETTER_RULES
 from notslower.errors import BadStep
 from notslower.same_rules import SAME_RULES
-from notslower.terms import is_same_term, part_at, put_at
+from notslower.terms import is_same, part_at, put_at
 
-# How many things the rules are told that are told something.
-TOLD = {"rename": 3, "float-let": 1, "float-cost": 1, "order": 1, "copy": 2, "unused": 1}
+# What the rules are told that are told something. A place is a tuple of indexes, too.
+TOLD = {
+    "rename": ("index", "name", "name"), "float-let": ("index",), "float-cost": ("index",),
+    "order": ("indexes",), "copy": ("name", "indexes"), "unused": ("names",)}
+
+# The words of the steps of derivations, and of those that entries of a library may have.
+STEPS = ("go", "back", "claim")
+LIBRARY_STEPS = ("go", "back", "claim", "undo")
 
 
 class Claim:
@@ -18,8 +24,8 @@ class Claim:
         self.kind = kind
 
     def __eq__(self, other):
-        return (isinstance(other, Claim) and self.first == other.first and self.last == other.last
-                and self.kind == other.kind)
+        return (isinstance(other, Claim) and self.kind == other.kind
+                and is_same(self.first, other.first) and is_same(self.last, other.last))
 
 
 def kind_of(name):
@@ -33,7 +39,7 @@ def kind_of(name):
 
 def applied(name, term, given):
     """The term to which a rule changes a term, or None if it does not hold or there is no such rule."""
-    if kind_of(name) is None or len(given) != TOLD.get(name, 0):
+    if kind_of(name) is None or len(given) != len(TOLD.get(name, ())):
         return None
     if name in SAME_RULES:
         change = SAME_RULES[name]
@@ -47,16 +53,23 @@ def went_back(part, rule, given, other):
     if kind_of(rule) != "same":
         return None
     changed = applied(rule, other, given)
-    if changed is None or not is_same_term(changed, part):
+    if changed is None or not is_same(changed, part):
         return None
     return other
 
 
 def claimed(part, k, claims):
     """The last term of claim k, if the part is its first term, otherwise None."""
-    if k < 0 or k >= len(claims) or not is_same_term(claims[k].first, part):
+    if k < 0 or k >= len(claims) or not is_same(claims[k].first, part):
         return None
     return claims[k].last
+
+
+def undone(part, k, claims):
+    """The first term of claim k, if the part is its last term and it is of the kind "same", otherwise None."""
+    if k < 0 or k >= len(claims) or claims[k].kind != "same" or not is_same(claims[k].last, part):
+        return None
+    return claims[k].first
 
 
 def changed_part(part, step, claims):
@@ -67,26 +80,35 @@ def changed_part(part, step, claims):
         return went_back(part, step[2], step[3], step[4])
     if step[0] == "claim":
         return claimed(part, step[2], claims)
+    if step[0] == "undo":
+        return undone(part, step[2], claims)
     return None
 
 
 def kind_of_step(step, claims):
     """The kind of the rule or the claim of a step that holds."""
-    if step[0] == "claim":
+    if step[0] in ("claim", "undo"):
         return claims[step[2]].kind
     return kind_of(step[2])
 
 
-def derive(first, steps, claims=()):
-    """The Claim of a derivation. Raises BadStep."""
+def followed(first, steps, claims, allowed):
+    """The Claim of a list of steps from a term, each one of the allowed steps. Raises BadStep."""
     last = first
     kind = "same"
     for k, step in enumerate(steps):
         part = part_at(last, step[1])
-        other = None if part is None else changed_part(part, step, claims)
+        if step[0] not in allowed or part is None:
+            raise BadStep(k)
+        other = changed_part(part, step, claims)
         if other is None:
             raise BadStep(k)
         last = put_at(last, step[1], other)
         if kind_of_step(step, claims) == "better":
             kind = "better"
     return Claim(first, last, kind)
+
+
+def derive(first, steps, claims=()):
+    """The Claim of a derivation. Raises BadStep."""
+    return followed(first, steps, claims, STEPS)

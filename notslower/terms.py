@@ -44,17 +44,18 @@ def with_parts(term, others):
     return (word, *others)
 
 
-def is_same_term(term, other):
+def is_same(term, other):
     """True if the two terms are equal, otherwise False: also if they are too deep for `==`."""
     waiting = [(term, other)]
     while waiting:
         one, beside = waiting.pop()
-        inner = bare_parts(one)
-        others = bare_parts(beside)
-        holes = [("hole",)] * len(inner)
-        if len(inner) != len(others) or with_parts(one, holes) != with_parts(beside, holes):
+        if isinstance(one, tuple) and isinstance(beside, tuple):
+            if len(one) != len(beside):
+                return False
+            # The words are compared first: most terms that differ have different ones.
+            waiting.extend(list(zip(one, beside))[::-1])
+        elif one != beside:
             return False
-        waiting.extend(list(zip(inner, others)))
     return True
 
 
@@ -117,6 +118,15 @@ def depth(term):
     return len(levels(term))
 
 
+def parts_below(place, part, low):
+    """A list of pairs: the place of each part of the part at a place, from part `low` on, and this part.
+
+    The last one stands first: a list from whose end the next one is taken is extended by it.
+    """
+    inner = bare_parts(part)
+    return [(place + (k,), inner[k]) for k in reversed(range(low, len(inner)))]
+
+
 def located(term):
     """A list of pairs: each place of the term, in order, and the part at it."""
     found = []
@@ -124,10 +134,7 @@ def located(term):
     while waiting:
         place, part = waiting.pop()
         found.append((place, part))
-        inner = bare_parts(part)
-        # The last one that is put here is the next one that is taken.
-        for k in reversed(range(len(inner))):
-            waiting.append((place + (k,), inner[k]))
+        waiting.extend(parts_below(place, part, 0))
     return found
 
 

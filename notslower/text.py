@@ -152,13 +152,23 @@ def read_part(reader, left):
     return read_deep(reader, left - 1)
 
 
-def read_term(text):
-    """The term that a text writes. Raises BadText."""
+def read_whole(reader):
+    """The term that comes next, as deep as terms that are read may be."""
+    return read_part(reader, DEEPEST)
+
+
+def read_all(text, read):
+    """What a function reads, from a Reader, of all the words of a text. Raises BadText."""
     reader = Reader(text.split(" ") if text else [])
-    term = read_part(reader, DEEPEST)
+    found = read(reader)
     if reader.at < len(reader.words):
         raise BadText(reader.at)
-    return term
+    return found
+
+
+def read_term(text):
+    """The term that a text writes. Raises BadText."""
+    return read_all(text, read_whole)
 
 
 def pieces(term):

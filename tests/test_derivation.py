@@ -12,6 +12,7 @@ from notslower.machine import run
 from notslower.terms import free_names, part_at, places, put_at
 from notslower.text import read_term, term_text
 
+from claim_texts import claim_of, ticks
 from small_terms import Maker, things_told
 
 SAME = ("rename", "beta", "choose", "zero", "reckon", "float-let", "float-cost", "join", "branch", "sink", "order",
@@ -19,10 +20,6 @@ SAME = ("rename", "beta", "choose", "zero", "reckon", "float-let", "float-cost",
 BETTER = ("unused", "once", "alias", "into", "untick", "cheaper")
 NO_RULES = ("", "none", "float", "float-", "floatlet", "float_let", "Beta", "BETA", " beta", "beta ", "let", "same",
             "better", "go", "back", "claim", "undo")
-
-
-def claim_of(first, last, kind):
-    return Claim(read_term(first), read_term(last), kind)
 
 
 class Rules(unittest.TestCase):
@@ -318,6 +315,12 @@ class Interface(unittest.TestCase):
             self.assertTrue(Claim(*fields) != changed, k)
             self.assertTrue(changed != Claim(*fields), k)
         self.assertTrue(Claim(fields[0], fields[1], "same") != Claim(fields[1], fields[0], "same"))
+
+    def test_claims_with_deep_terms(self):
+        deeps = [Claim(read_term("x"), ticks(10000, last), "same") for last in ("1", "1", "2")]
+        self.assertTrue(deeps[0] == deeps[1])
+        self.assertFalse(deeps[0] == deeps[2])
+        self.assertTrue(deeps[0] != deeps[2])
 
     def test_a_claim_equals_nothing_else(self):
         fields = (read_term("tick x"), read_term("x"), "better")

@@ -177,7 +177,8 @@ class Names(TextCase):
             self.accepted(f"case 1 of {word} ( ) 1 end", ("case", ONE, ((word, (), ONE),)))
 
     def test_words_that_are_no_constructors(self):
-        for word in ("", "ABCDEFG", "a", "Aa", "aA", "A1", "1", "(", ")", "A_B", "\n", "A\n", "\tA", "[", "@") + KEY_WORDS:
+        words = ("", "ABCDEFG", "a", "Aa", "aA", "A1", "1", "(", ")", "A_B", "\n", "A\n", "\tA", "[", "@")
+        for word in words + KEY_WORDS:
             self.refused(f"make {word} ( )", 1)
             self.refused(f"case 1 of {word} ( ) 1 end", 3)
             self.refused(f"case 1 of A ( ) 1 of {word} ( ) 1 end", 8)
