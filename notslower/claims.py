@@ -14,24 +14,22 @@ def ask_for_context(term):
         raise BadClaim("context")
 
 
-def recursive_term(context, pairs, term):
-    """The tick of the context that is filled with the term under its other names, or None if one captures."""
+def is_once_around(context, pairs, term, other):
+    """True if the other term is the tick of the context that is filled with the term under its other names."""
     table = dict(pairs)
     changed = put_names(term, table)
     # Without the first question, a name with two others would become the last one of these.
     if len(table) < len(pairs) or changed is None:
-        return None
-    return ("tick", filled(context, changed))
+        return False
+    return is_same(("tick", filled(context, changed)), other)
 
 
 def by_recursion(context, pairs, one, other):
     """The Claim that two claims lead to by recursion. Raises BadClaim."""
     ask_for_context(context)
-    first = recursive_term(context, pairs, one.first)
-    if first is None or not is_same(first, one.last):
+    if not is_once_around(context, pairs, one.first, one.last):
         raise BadClaim("first")
-    last = recursive_term(context, pairs, other.last)
-    if last is None or not is_same(last, other.first):
+    if not is_once_around(context, pairs, other.last, other.first):
         raise BadClaim("second")
     return Claim(one.first, other.last, "better")
 

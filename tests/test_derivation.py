@@ -316,6 +316,18 @@ class Interface(unittest.TestCase):
             self.assertTrue(changed != Claim(*fields), k)
         self.assertTrue(Claim(fields[0], fields[1], "same") != Claim(fields[1], fields[0], "same"))
 
+    def test_claims_with_terms_of_other_lengths(self):
+        rows = [
+            "let x 1 in 2", "let x 1 y 2 in 2", "make A ( )", "make A ( x )", "make A ( x y )", "tick 1", "+ 1 1",
+            "ifzero 1 1 1", "case 1 of A ( ) 1 end", "case 1 of A ( x ) 1 end", "case 1 of A ( ) 1 of B ( ) 1 end"]
+        for one in rows:
+            for other in rows:
+                self.assertIs(claim_of(one, "1", "same") == claim_of(other, "1", "same"), one == other)
+                self.assertIs(claim_of("1", one, "same") == claim_of("1", other, "same"), one == other)
+                if one != other:
+                    with self.assertRaises(BadStep):
+                        derive(read_term(one), [("claim", (), 0)], [claim_of(other, "1", "same")])
+
     def test_claims_with_deep_terms(self):
         deeps = [Claim(read_term("x"), ticks(10000, last), "same") for last in ("1", "1", "2")]
         self.assertTrue(deeps[0] == deeps[1])

@@ -185,6 +185,10 @@ class Checked(Entries):
                 self.last_refused(("derived", read_term(first), (("claim", (), k),)))
                 self.last_refused(("derived", read_term(last), (("undo", (), k),)))
 
+    def test_an_entry_of_another_form(self):
+        for word in ("", "Chain", "claim", "go", "undo", "line"):
+            self.last_refused((word, 0, 1))
+
     def test_the_first_entry_has_no_earlier_ones(self):
         for k in (0, 1, -1):
             self.refused([("context", k, HOLE)], 0)
