@@ -26,9 +26,10 @@ def change_at(place, part, claims, chosen):
 
 
 def located_from(term, start):
-    """Two lists of places with the parts at them: those around the place `start`, and those that go on from it.
+    """Two lists of places with the parts at them: those around the place `start`, and those to go on with.
 
-    The second one has this place and then the ones behind it that are in no place of the list, backward.
+    The second list is taken from its end: this place, and then the ones behind it. Places within one of
+    these are not in the list.
     """
     path = path_to(term, start)
     around = []
@@ -68,7 +69,7 @@ def improving_steps(term, claims):
     while change is not None:
         step, other = change
         steps.append(step)
-        # A step changes nothing before its place but the parts around it, and nothing held there.
+        # Of the places before this one only those around it have changed, and nothing held at the others.
         start = step[1]
         term = put_at(term, start, other)
         change = first_change(term, start, claims, chosen)
